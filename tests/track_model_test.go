@@ -20,23 +20,28 @@ func modelPower(p *impl.Point, h int, k int) {
 	*places[turn%4] += k
 }
 
+// modelLay lays a piece behind p with the heading h, which is not reduced modulo 8.
+func modelLay(p *impl.Point, h *int, piece rune) {
+	switch piece {
+	case 'S':
+		modelPower(p, *h, 1)
+	case 'L':
+		modelPower(p, *h-1, 1)
+		modelPower(p, *h-2, -1)
+		*h++
+	case 'R':
+		modelPower(p, *h+1, 1)
+		modelPower(p, *h+2, -1)
+		*h--
+	}
+}
+
 // modelLaid returns the joints of a track, and the headings there.
 func modelLaid(track string) []lead {
 	p, h := pt(0, 0, 0, 0), 0
 	list := []lead{{p, 0}}
 	for _, piece := range track {
-		switch piece {
-		case 'S':
-			modelPower(&p, h, 1)
-		case 'L':
-			modelPower(&p, h-1, 1)
-			modelPower(&p, h-2, -1)
-			h++
-		case 'R':
-			modelPower(&p, h+1, 1)
-			modelPower(&p, h+2, -1)
-			h--
-		}
+		modelLay(&p, &h, piece)
 		list = append(list, lead{p, ((h % 8) + 8) % 8})
 	}
 	return list
