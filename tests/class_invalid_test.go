@@ -49,11 +49,7 @@ func TestNoHeadingsToGrowFor(t *testing.T) {
 
 // TestAnyRingTextsAreAccepted calls what takes a ring with texts of any bytes and with any numbers.
 func TestAnyRingTextsAreAccepted(t *testing.T) {
-	seed := uint32(11)
-	next := func(n int) int {
-		seed = seed*1664525 + 1013904223
-		return int(seed>>8) % n
-	}
+	next := diceFrom(11)
 	rings := someRings()
 	for range 3000 {
 		text := []byte(rings[next(len(rings))])

@@ -41,11 +41,7 @@ func checkNotClosed(t *testing.T, text string) {
 
 // TestAnyClosingTextsAreAccepted calls what takes a track with texts of any bytes and with any numbers.
 func TestAnyClosingTextsAreAccepted(t *testing.T) {
-	seed := uint32(5)
-	next := func(n int) int {
-		seed = seed*1664525 + 1013904223
-		return int(seed>>8) % n
-	}
+	next := diceFrom(5)
 	closed := closedOnes()
 	for range 5000 {
 		text := []byte(closed[next(len(closed))])

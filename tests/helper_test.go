@@ -1,6 +1,7 @@
 package tests
 
 import (
+	"fmt"
 	"math"
 	"testing"
 
@@ -33,6 +34,24 @@ func sure[T any](value T, ok bool) T {
 		panic("a call failed that should succeed")
 	}
 	return value
+}
+
+// printed is the answer of a call as a text, so that lists are compared at once. A call that fails with anything but a zero value keeps its text.
+func printed[T any](value T, ok bool) answer[string] {
+	var zero T
+	text := fmt.Sprint(value)
+	if !ok && text == fmt.Sprint(zero) {
+		return failsAs[string]()
+	}
+	return answer[string]{text, ok}
+}
+
+// diceFrom returns a function that gives numbers in 0..n - 1, the same ones for the same seed.
+func diceFrom(seed uint32) func(n int) int {
+	return func(n int) int {
+		seed = seed*1664525 + 1013904223
+		return int(seed>>8) % n
+	}
 }
 
 func pt(a, b, c, d int) impl.Point { return impl.Point{A: a, B: b, C: c, D: d} }

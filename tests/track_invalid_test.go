@@ -65,11 +65,7 @@ func TestListsOfNoTrack(t *testing.T) {
 
 // TestAnyTextsAreAccepted calls everything with texts of any bytes and with any numbers.
 func TestAnyTextsAreAccepted(t *testing.T) {
-	seed := uint32(3)
-	next := func(n uint32) uint32 {
-		seed = seed*1664525 + 1013904223
-		return seed >> 8 % n
-	}
+	next := diceFrom(3)
 	for range 20000 {
 		var text strings.Builder
 		for range next(50) {
@@ -79,7 +75,7 @@ func TestAnyTextsAreAccepted(t *testing.T) {
 				text.WriteByte("SLR"[next(3)])
 			}
 		}
-		s, from, to := text.String(), someInts[next(uint32(len(someInts)))], someInts[next(uint32(len(someInts)))]
+		s, from, to := text.String(), someInts[next(len(someInts))], someInts[next(len(someInts))]
 		is := len(s) <= 40 && strings.Trim(s, "SLR") == ""
 		same(t, impl.IsTrack(s), is, "IsTrack", s)
 		same(t, laidOf(s).ok, is, "joints and headings", s)
