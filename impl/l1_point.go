@@ -50,7 +50,7 @@ func LessPoints(p Point, q Point) (Point, bool) {
 	if !IsPoint(p) || !IsPoint(q) {
 		return Point{}, false
 	}
-	return onlyPoint(p.plus(q.scaled(-1)))
+	return onlyPoint(p.less(q))
 }
 
 // TimesPoints returns the product.
@@ -74,7 +74,7 @@ func MirrorPoint(p Point) (Point, bool) {
 	if !IsPoint(p) {
 		return Point{}, false
 	}
-	return Point{A: p.A, B: -p.D, C: -p.C, D: -p.B}, true
+	return p.mirror(), true
 }
 
 // ScalePoint returns k times p, k in -1000..1000.
@@ -116,7 +116,7 @@ func TwiceX(p Point) (Surd, bool) {
 	if !IsPoint(p) {
 		return Surd{}, false
 	}
-	return Surd{Plain: 2 * p.A, Root: p.B - p.D}, true
+	return p.twiceX(), true
 }
 
 // TwiceY returns twice the number to the north: 2 C and B + D times the root of two.
@@ -124,7 +124,7 @@ func TwiceY(p Point) (Surd, bool) {
 	if !IsPoint(p) {
 		return Surd{}, false
 	}
-	return Surd{Plain: 2 * p.C, Root: p.B + p.D}, true
+	return p.twiceY(), true
 }
 
 // IsSurd reports whether s, whose numbers may be any, is a surd.
@@ -135,11 +135,7 @@ func AddSurds(s Surd, t Surd) (Surd, bool) {
 	if !IsSurd(s) || !IsSurd(t) {
 		return Surd{}, false
 	}
-	sum := Surd{Plain: s.Plain + t.Plain, Root: s.Root + t.Root}
-	if !IsSurd(sum) {
-		return Surd{}, false
-	}
-	return sum, true
+	return onlySurd(s.plus(t))
 }
 
 // TimesSurds returns the product, for surds whose numbers are at most 10^6 in size.
@@ -215,6 +211,14 @@ func onlyPoint(p Point) (Point, bool) {
 	return p, true
 }
 
+// onlySurd lets no result out that is no surd.
+func onlySurd(s Surd) (Surd, bool) {
+	if !IsSurd(s) {
+		return Surd{}, false
+	}
+	return s, true
+}
+
 // isWithin compares with both bounds, as the least int has no size of its own.
 func isWithin(n int, limit int) bool { return -limit <= n && n <= limit }
 
@@ -272,6 +276,8 @@ func (p Point) plus(q Point) Point {
 	return Point{A: p.A + q.A, B: p.B + q.B, C: p.C + q.C, D: p.D + q.D}
 }
 
+func (p Point) less(q Point) Point { return p.plus(q.scaled(-1)) }
+
 func (p Point) scaled(k int) Point {
 	return Point{A: k * p.A, B: k * p.B, C: k * p.C, D: k * p.D}
 }
@@ -286,6 +292,12 @@ func (p Point) times(q Point) Point {
 	}
 }
 
+func (p Point) mirror() Point { return Point{A: p.A, B: -p.D, C: -p.C, D: -p.B} }
+
+func (p Point) twiceX() Surd { return Surd{Plain: 2 * p.A, Root: p.B - p.D} }
+
+func (p Point) twiceY() Surd { return Surd{Plain: 2 * p.C, Root: p.B + p.D} }
+
 // norm is the product of a point and its mirrored one, in which z - z^3 is the root of two.
 func (p Point) norm() Surd {
 	return Surd{
@@ -298,10 +310,12 @@ func (s Surd) isWithin(limit int) bool {
 	return isWithin(s.Plain, limit) && isWithin(s.Root, limit)
 }
 
+func (s Surd) plus(t Surd) Surd { return Surd{Plain: s.Plain + t.Plain, Root: s.Root + t.Root} }
+
+func (s Surd) less(t Surd) Surd { return Surd{Plain: s.Plain - t.Plain, Root: s.Root - t.Root} }
+
 // compare takes the difference itself, which may be too great for a surd, but not for sign.
-func (s Surd) compare(t Surd) int {
-	return Surd{Plain: s.Plain - t.Plain, Root: s.Root - t.Root}.sign()
-}
+func (s Surd) compare(t Surd) int { return s.less(t).sign() }
 
 // sign is that of the part that is greater in size. Squares tell which one without rounding, and never
 // as the same but for 0, as the root of two is no fraction; at 10^15 they need more than 64 bits.
